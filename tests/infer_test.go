@@ -180,6 +180,7 @@ func openProgs() []openTo {
 
 // P43, P45, P47, P48
 func TestFoundLabelsOfManyPrograms(t *testing.T) {
+	t.Parallel()
 	seen := map[string]int{}
 	for _, x := range openProgs() {
 		got := checkInfer(t, x.prog, x.free)
@@ -209,6 +210,7 @@ func TestFoundLabelsOfManyPrograms(t *testing.T) {
 
 // P43, P45: every shape of steps.
 func TestFoundLabelsOfEachShape(t *testing.T) {
+	t.Parallel()
 	for i, p := range okShapes(7) {
 		p.Labels = labelled([]string{"01!12", "12!01", "02!02", "012!2"}).Labels
 		frees := allFrees(4)
@@ -219,6 +221,7 @@ func TestFoundLabelsOfEachShape(t *testing.T) {
 
 // P43
 func TestWithFoundLabelsItIsFineAndAllOthersStay(t *testing.T) {
+	t.Parallel()
 	some := 0
 	for _, x := range openProgs() {
 		got := inferOf(x.prog, x.free)
@@ -250,6 +253,7 @@ func becomes(a, b []impl.Label) bool {
 
 // P44
 func TestOfAFineProgramLabelsAreFoundThatMayBecomeThose(t *testing.T) {
+	t.Parallel()
 	c := chance(12)
 	others := 0
 	for _, p := range fineProgs(t) {
@@ -293,6 +297,7 @@ func checkMost(t *testing.T, p impl.Prog, free []bool, got inferred, tried []imp
 
 // P45: one free variable, with all labels in its place.
 func TestWhateverElseMakesItFineOfOne(t *testing.T) {
+	t.Parallel()
 	named := allLabels()
 	seen := map[string]int{}
 	for i, x := range openProgs() {
@@ -328,6 +333,7 @@ func TestWhateverElseMakesItFineOfOne(t *testing.T) {
 
 // P45: two free variables, with all labels in their places.
 func TestWhateverElseMakesItFineOfTwo(t *testing.T) {
+	t.Parallel()
 	c := chance(13)
 	named := allLabels()
 	seen := map[bool]int{}
@@ -356,6 +362,7 @@ func TestWhateverElseMakesItFineOfTwo(t *testing.T) {
 
 // P45: any labels in place of those that are free, also such as make it fine by losing hosts.
 func TestWhateverElseMakesItFineOfMany(t *testing.T) {
+	t.Parallel()
 	c := chance(14)
 	fine := 0
 	for _, x := range openProgs() {
@@ -386,6 +393,7 @@ func TestWhateverElseMakesItFineOfMany(t *testing.T) {
 
 // P45: one host more in a label that is found, and it is not fine, whatever the others are.
 func TestNoHostMoreIsFine(t *testing.T) {
+	t.Parallel()
 	lacking := 0
 	for i, x := range openProgs() {
 		got := inferOf(x.prog, x.free)
@@ -417,6 +425,7 @@ func TestNoHostMoreIsFine(t *testing.T) {
 
 // P46
 func TestFoundOnceMoreTheyAreTheSame(t *testing.T) {
+	t.Parallel()
 	for _, x := range openProgs() {
 		got := inferOf(x.prog, x.free)
 		if !got.ok {
@@ -433,6 +442,7 @@ func TestFoundOnceMoreTheyAreTheSame(t *testing.T) {
 
 // P45, P46: what labels a free variable had does not matter.
 func TestLabelsThatWereDoNotMatter(t *testing.T) {
+	t.Parallel()
 	c := chance(15)
 	for _, x := range openProgs() {
 		want := inferOf(x.prog, x.free)
@@ -451,6 +461,7 @@ func TestLabelsThatWereDoNotMatter(t *testing.T) {
 
 // P47
 func TestWithNothingFreeFoundJustIfItIsFine(t *testing.T) {
+	t.Parallel()
 	seen := map[bool]int{}
 	for _, p := range slices.Concat(typedProgs(), leakyProgs()) {
 		fine := checkFine(t, p)
@@ -470,6 +481,7 @@ func TestWithNothingFreeFoundJustIfItIsFine(t *testing.T) {
 
 // P48
 func TestWithAllFreeAllKnowAndTrustAll(t *testing.T) {
+	t.Parallel()
 	c := chance(16)
 	progs := slices.Concat(typedProgs(), leakyProgs(), okShapes(8))
 	for range 1000 {
@@ -485,6 +497,7 @@ func TestWithAllFreeAllKnowAndTrustAll(t *testing.T) {
 
 // P49
 func TestOtherLabelsChangeNothingOfWhatComesOfIt(t *testing.T) {
+	t.Parallel()
 	c := chance(17)
 	others := 0
 	for _, x := range openProgs() {
@@ -544,6 +557,7 @@ func checkHandWorked(t *testing.T, cases []handWorked) {
 
 // P43, P45: variables that are set by one another, by a chain, and in a ring, in whatever order the steps stand.
 func TestVariablesSetByOneAnother(t *testing.T) {
+	t.Parallel()
 	chain := []impl.Step{set(1, taken(0)), set(2, taken(1)), set(3, taken(2))}
 	back := []impl.Step{set(3, taken(2)), set(2, taken(1)), set(1, taken(0))}
 	ring := slices.Concat(chain, []impl.Step{set(0, taken(3))})
@@ -579,6 +593,7 @@ func TestVariablesSetByOneAnother(t *testing.T) {
 
 // P43, P45: two rings, one of which hands on to the other, and a variable that is set by itself.
 func TestRingsOfTwoAndOfOne(t *testing.T) {
+	t.Parallel()
 	two := []impl.Step{set(0, taken(1)), set(1, taken(0)), set(2, taken(3)), set(3, taken(2))}
 	joined := slices.Concat([]impl.Step{set(2, sum(2, 1))}, two)
 	checkHandWorked(t, []handWorked{
@@ -598,6 +613,7 @@ func TestRingsOfTwoAndOfOne(t *testing.T) {
 
 // P43, P45: what is learned only from which steps are done, of steps in steps in steps, by Then and by Else.
 func TestLearnedOnlyFromWhichStepsAreDone(t *testing.T) {
+	t.Parallel()
 	for sides := range 4 {
 		in := func(v int, steps ...impl.Step) impl.Step {
 			if sides>>v&1 == 0 {
@@ -643,6 +659,7 @@ func TestLearnedOnlyFromWhichStepsAreDone(t *testing.T) {
 
 // P43, P45: what is told to a host that may not know it, of a variable that is free and of one that is not, and by which it is told.
 func TestToldToAHostThatMayNotKnowIt(t *testing.T) {
+	t.Parallel()
 	for host, h := range []string{"0", "1", "2"} {
 		rest := keep(func(other string) bool { return other != h })
 		checkHandWorked(t, []handWorked{
@@ -672,6 +689,7 @@ func TestToldToAHostThatMayNotKnowIt(t *testing.T) {
 
 // P45: with every label one variable takes just that from another, by a value and by being done, each part of it alone.
 func TestEachLabelIsHandedOn(t *testing.T) {
+	t.Parallel()
 	for _, a := range allLabels() {
 		for _, b := range allLabels() {
 			both := common(a.know, b.know) + "!" + common(a.trust, b.trust)
@@ -690,6 +708,7 @@ func TestEachLabelIsHandedOn(t *testing.T) {
 
 // P43 to P48: without steps, or variables, and of one variable to four.
 func TestFoundLabelsOfNothing(t *testing.T) {
+	t.Parallel()
 	for _, p := range []impl.Prog{{}, {Labels: []impl.Label{}, Steps: []impl.Step{}}} {
 		for _, free := range [][]bool{nil, {}} {
 			if got := inferOf(p, free); !got.is(inferred{impl.Prog{}, true}) {
@@ -714,6 +733,7 @@ func TestFoundLabelsOfNothing(t *testing.T) {
 
 // P43, P45: as much as there may be.
 func TestFoundLabelsAtTheLimits(t *testing.T) {
+	t.Parallel()
 	deep := func(v int) impl.Step {
 		return when(v, []impl.Step{when((v+1)%4, nil, []impl.Step{set((v+2)%4, num(9))})}, nil)
 	}
@@ -731,6 +751,7 @@ func TestFoundLabelsAtTheLimits(t *testing.T) {
 
 // P43 to P48: free that are fewer, or more, than labels.
 func TestFreeThatAreFewerOrMore(t *testing.T) {
+	t.Parallel()
 	for vars := range 5 {
 		for _, p := range []impl.Prog{progOf(vars), labelled([]string{"0!", "1!2", "2!1", "!"}[:vars])} {
 			for v := range vars {
@@ -773,6 +794,7 @@ func checkNeverInferred(t *testing.T, p impl.Prog, what string) {
 
 // P43 to P48: of a program that is not ok no labels are found, also where what is wrong is the label of a variable that is free.
 func TestFoundLabelsOfWrongPrograms(t *testing.T) {
+	t.Parallel()
 	leaf := []impl.Step{set(0, num(1))}
 	for many := 5; many < 8; many++ {
 		checkNeverInferred(t, progOf(many), "too many labels")
@@ -808,6 +830,7 @@ func TestFoundLabelsOfWrongPrograms(t *testing.T) {
 
 // P43 to P48: a wrong step stands anywhere.
 func TestFoundLabelsOfWrongSteps(t *testing.T) {
+	t.Parallel()
 	for _, s := range wrongSteps() {
 		for _, steps := range [][]impl.Step{
 			{s}, {set(0, num(1)), s}, {s, set(0, taken(1))}, {when(0, []impl.Step{s}, nil)}, {when(1, nil, []impl.Step{set(0, num(1)), s})}, {when(0, nil, []impl.Step{when(1, []impl.Step{s}, nil)})},
@@ -825,6 +848,7 @@ func spoilProg(p impl.Prog) {
 
 // P43: nothing is written into a program, nor into what is free, nor behind the end of them, and the program that is found is new memory.
 func TestFoundLabelsAreNewMemory(t *testing.T) {
+	t.Parallel()
 	mark := impl.Label{Know: 91, Trust: 92}
 	some := map[bool]int{}
 	for _, x := range openProgs()[15000:30000] {
@@ -870,6 +894,7 @@ func stepLists(steps []impl.Step) [][]impl.Step {
 
 // P43: no two lists of the program that is found share any memory, also where those of the one that came in do.
 func TestFoundLabelsShareNoLists(t *testing.T) {
+	t.Parallel()
 	leaf := make([]impl.Step, 1, 4)
 	leaf[0] = set(0, num(5))
 	empty := make([]impl.Step, 0, 4)
@@ -912,6 +937,7 @@ func flatAll(list []impl.Step) []flatStep {
 
 // P43: what is not ok is not written into either.
 func TestFoundLabelsOfWhatIsNotOkShareNothing(t *testing.T) {
+	t.Parallel()
 	for _, s := range wrongSteps() {
 		var lists, were [][]impl.Step
 		wrong := labelled([]string{"0!", "12!0"}, set(0, num(2)), when(1, []impl.Step{set(0, num(2)), s}, nil))
@@ -931,6 +957,7 @@ func TestFoundLabelsOfWhatIsNotOkShareNothing(t *testing.T) {
 
 // P46: the same is answered again, whatever was asked in between.
 func TestFoundLabelsKeepNothing(t *testing.T) {
+	t.Parallel()
 	open := openProgs()
 	var first []inferred
 	for _, x := range open {

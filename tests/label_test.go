@@ -96,6 +96,7 @@ func joined(a, b string) string {
 
 // Said of all promises: what is ok.
 func TestLabelOkIsTwoSets(t *testing.T) {
+	t.Parallel()
 	all := allLabels()
 	if len(all) != 64 || impl.Hosts != 3 {
 		t.Fatalf("%d labels of %d hosts", len(all), impl.Hosts)
@@ -114,6 +115,7 @@ func TestLabelOkIsTwoSets(t *testing.T) {
 
 // P1
 func TestLabelFlowsIsFewerKnowAndFewerTrust(t *testing.T) {
+	t.Parallel()
 	all := allLabels()
 	for _, a := range all {
 		if !impl.LabelFlows(a.label, a.label) {
@@ -130,6 +132,7 @@ func TestLabelFlowsIsFewerKnowAndFewerTrust(t *testing.T) {
 
 // P1
 func TestLabelFlowsOneByOne(t *testing.T) {
+	t.Parallel()
 	cases := []struct {
 		a, b impl.Label
 		want bool
@@ -155,6 +158,7 @@ func TestLabelFlowsOneByOne(t *testing.T) {
 
 // P2
 func TestLabelFlowsIsAnOrder(t *testing.T) {
+	t.Parallel()
 	all := allLabels()
 	for _, a := range all {
 		for _, b := range all {
@@ -175,6 +179,7 @@ func TestLabelFlowsIsAnOrder(t *testing.T) {
 
 // P3
 func TestLabelBothIsTheFirstThatBothMayBecome(t *testing.T) {
+	t.Parallel()
 	all := allLabels()
 	for _, a := range all {
 		for _, b := range all {
@@ -197,6 +202,7 @@ func TestLabelBothIsTheFirstThatBothMayBecome(t *testing.T) {
 
 // P4
 func TestLabelEitherIsTheLastThatMayBecomeBoth(t *testing.T) {
+	t.Parallel()
 	all := allLabels()
 	for _, a := range all {
 		for _, b := range all {
@@ -219,6 +225,7 @@ func TestLabelEitherIsTheLastThatMayBecomeBoth(t *testing.T) {
 
 // P5
 func TestLabelBothAndEitherTakeOneAnotherUp(t *testing.T) {
+	t.Parallel()
 	all := allLabels()
 	for _, na := range all {
 		for _, nb := range all {
@@ -243,6 +250,7 @@ func TestLabelBothAndEitherTakeOneAnotherUp(t *testing.T) {
 
 // P6
 func TestLabelIsReadBackFromItsText(t *testing.T) {
+	t.Parallel()
 	for _, a := range allLabels() {
 		text := impl.LabelText(a.label)
 		if text != a.text() {
@@ -280,6 +288,7 @@ func labelTexts(t *testing.T) map[string]impl.Label {
 
 // P7
 func TestLabelHasJustOneText(t *testing.T) {
+	t.Parallel()
 	texts := labelTexts(t)
 	row := []string{""}
 	for range 8 {
@@ -296,6 +305,7 @@ func TestLabelHasJustOneText(t *testing.T) {
 
 // P7
 func TestLabelTextWithAnotherByteIsNone(t *testing.T) {
+	t.Parallel()
 	texts := labelTexts(t)
 	for _, a := range allLabels() {
 		s := a.text()
@@ -313,6 +323,7 @@ func TestLabelTextWithAnotherByteIsNone(t *testing.T) {
 
 // P7
 func TestLabelReadOfWhatIsNoText(t *testing.T) {
+	t.Parallel()
 	bad := []string{
 		"", "0", "012", "!!", "0!1!", "!0!", "0!!1", "10!", "!10", "00!", "!22", "021!", "!021", "3!", "!3", "9!", "013!",
 		" !", "! ", " 0!1", "0!1 ", "0 1!", "0!1\n", "\n!", "0! 1", "0,1!", "-1!", "+0!", "-!", "a!", "!a", "\x00!", "!\x00",
@@ -328,6 +339,7 @@ func TestLabelReadOfWhatIsNoText(t *testing.T) {
 
 // P8
 func TestLabelOfAllBecomesAnythingAndAnythingThatOfNobody(t *testing.T) {
+	t.Parallel()
 	all, nobody := impl.Label{Know: 7, Trust: 7}, impl.Label{}
 	for _, a := range allLabels() {
 		if !impl.LabelFlows(all, a.label) || !impl.LabelFlows(a.label, nobody) {
@@ -350,6 +362,7 @@ func TestLabelOfAllBecomesAnythingAndAnythingThatOfNobody(t *testing.T) {
 
 // P1, P3, P4, P6, P8: what is no label becomes nothing, not even itself.
 func TestLabelsThatAreNone(t *testing.T) {
+	t.Parallel()
 	nothing := impl.Label{}
 	others := []impl.Label{nothing, {Know: 7, Trust: 7}, {Know: 5, Trust: 2}, {Know: 8}, {Trust: -1}}
 	for _, a := range noLabels() {

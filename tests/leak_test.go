@@ -215,6 +215,7 @@ func (a asked) areRows() bool {
 
 // P34, P36, P39, P41
 func TestRowsOfManyPrograms(t *testing.T) {
+	t.Parallel()
 	seen := map[string]int{}
 	count := func(what string, pairs []pair) {
 		if len(pairs) == 0 {
@@ -248,6 +249,7 @@ func TestRowsOfManyPrograms(t *testing.T) {
 
 // P34, P36, P39, P41: every program of two variables and one plain step, also inside a StepIf, with all labels that two hosts can tell apart.
 func TestRowsOfEachStep(t *testing.T) {
+	t.Parallel()
 	for _, s := range plainSteps(2) {
 		for _, a := range allLabels() {
 			for _, b := range []string{"!", "0!12", "12!0"} {
@@ -263,6 +265,7 @@ func TestRowsOfEachStep(t *testing.T) {
 
 // P34, P39: every shape of steps.
 func TestRowsOfEachShape(t *testing.T) {
+	t.Parallel()
 	for _, p := range okShapes(7) {
 		p.Labels = labelled([]string{"01!12", "12!01", "02!02", "012!2"}).Labels
 		checkPairs(t, p)
@@ -271,6 +274,7 @@ func TestRowsOfEachShape(t *testing.T) {
 
 // P34
 func TestLeakedRowsAreTheSameInWhatTheHostMayKnow(t *testing.T) {
+	t.Parallel()
 	for _, a := range toldRows(t, leakOf) {
 		knows := impl.TypeKnows(a.prog, a.host)
 		if !a.areRows() || !slices.Equal(pick(a.first, knows), pick(a.second, knows)) {
@@ -285,6 +289,7 @@ func TestLeakedRowsAreTheSameInWhatTheHostMayKnow(t *testing.T) {
 
 // P39
 func TestSwayingRowsAreTheSameInWhatTheHostTrusts(t *testing.T) {
+	t.Parallel()
 	for _, a := range toldRows(t, swayOf) {
 		trusts := impl.TypeTrusts(a.prog, a.host)
 		if !a.areRows() || !slices.Equal(pick(a.first, trusts), pick(a.second, trusts)) {
@@ -299,6 +304,7 @@ func TestSwayingRowsAreTheSameInWhatTheHostTrusts(t *testing.T) {
 
 // P35, P40
 func TestOfFineProgramsNoRowsAreTold(t *testing.T) {
+	t.Parallel()
 	for _, p := range fineProgs(t) {
 		checkNoPairs(t, p, written(p))
 	}
@@ -310,6 +316,7 @@ func TestOfFineProgramsNoRowsAreTold(t *testing.T) {
 
 // P36, P41: with all rows of 0 and 1, by the program's own answers.
 func TestIfNoRowsAreToldThereAreNone(t *testing.T) {
+	t.Parallel()
 	c := chance(9)
 	none := map[string]int{}
 	for range 1500 {
@@ -343,6 +350,7 @@ func TestIfNoRowsAreToldThereAreNone(t *testing.T) {
 
 // P36, P41: programs that are not fine, but with which nothing else comes of any rows of 0 and 1; other numbers are not looked at.
 func TestNotFineButNoRows(t *testing.T) {
+	t.Parallel()
 	for _, p := range []impl.Prog{
 		labelled([]string{"!"}, set(0, num(3)), tell(0, 0)),
 		labelled([]string{"!", "012!012"}, set(1, alike(0, 0)), tell(1, 0)),
@@ -367,6 +375,7 @@ func TestNotFineButNoRows(t *testing.T) {
 
 // P37
 func TestLeaksOnlyToHostsThatAreTold(t *testing.T) {
+	t.Parallel()
 	quiet := 0
 	for _, a := range toldRows(t, leakOf) {
 		one, two := impl.RunTo(run(t, a.prog, a.first), a.host), impl.RunTo(run(t, a.prog, a.second), a.host)
@@ -400,6 +409,7 @@ func TestLeaksOnlyToHostsThatAreTold(t *testing.T) {
 
 // P38
 func TestLeaksOnlyToHostsThatMayNotKnowAll(t *testing.T) {
+	t.Parallel()
 	for _, a := range toldRows(t, leakOf) {
 		if knows := impl.TypeKnows(a.prog, a.host); !slices.Contains(knows, false) || slices.Equal(a.first, a.second) {
 			t.Fatalf("%s: %d knows %v, %v", written(a.prog), a.host, knows, a.pair)
@@ -421,6 +431,7 @@ func TestLeaksOnlyToHostsThatMayNotKnowAll(t *testing.T) {
 
 // P42
 func TestSwaysOnlyHostsThatTrustSomethingAndNotAll(t *testing.T) {
+	t.Parallel()
 	for _, a := range toldRows(t, swayOf) {
 		if trusts := impl.TypeTrusts(a.prog, a.host); !slices.Contains(trusts, false) || !slices.Contains(trusts, true) || slices.Equal(a.first, a.second) {
 			t.Fatalf("%s: %d trusts %v, %v", written(a.prog), a.host, trusts, a.pair)
@@ -449,6 +460,7 @@ func unit(vars int, ones ...int) []int {
 
 // P34, P38: one variable to four, each of them told alone.
 func TestLeaksOfATellAlone(t *testing.T) {
+	t.Parallel()
 	for _, a := range allLabels() {
 		for vars := 1; vars < 5; vars++ {
 			for v := range vars {
@@ -475,6 +487,7 @@ func TestLeaksOfATellAlone(t *testing.T) {
 
 // P39, P42: one variable set by another one, or in what is done by it.
 func TestSwaysOfASetAlone(t *testing.T) {
+	t.Parallel()
 	for _, a := range allLabels() {
 		for _, b := range allLabels() {
 			for vars := 2; vars < 5; vars++ {
@@ -501,6 +514,7 @@ func TestSwaysOfASetAlone(t *testing.T) {
 
 // P34, P39: of several pairs of rows the one whose second row has the least number, then whose first has, worked out by hand.
 func TestFirstOfSeveralRows(t *testing.T) {
+	t.Parallel()
 	// Only with a and b both 1 is c, or what is told of it, another.
 	both := when(0, []impl.Step{when(1, []impl.Step{set(2, num(5))}, nil)}, nil)
 	either := when(0, []impl.Step{set(2, num(5))}, []impl.Step{when(1, []impl.Step{set(2, num(5))}, nil)})
@@ -542,6 +556,7 @@ func TestFirstOfSeveralRows(t *testing.T) {
 
 // P34: what is learned only from which steps are done, from the order, or the count, of what is told.
 func TestWhatIsLearnedButByNumbers(t *testing.T) {
+	t.Parallel()
 	for _, c := range []struct {
 		what  string
 		steps []impl.Step
@@ -570,6 +585,7 @@ func TestWhatIsLearnedButByNumbers(t *testing.T) {
 
 // P39: what is set to the same number, but more often, or in another order; what is not trusted does not count.
 func TestWhatSwaysButByNumbers(t *testing.T) {
+	t.Parallel()
 	for _, c := range []struct {
 		what  string
 		steps []impl.Step
@@ -597,6 +613,7 @@ func TestWhatSwaysButByNumbers(t *testing.T) {
 
 // P34, P39: leaks hang on who may know alone, sways on who trusts alone, and both on the host that is asked for alone.
 func TestRowsHangOnOnePartOfLabels(t *testing.T) {
+	t.Parallel()
 	c := chance(10)
 	some := 0
 	for _, p := range leakyProgs() {
@@ -633,6 +650,7 @@ func TestRowsHangOnOnePartOfLabels(t *testing.T) {
 
 // P35, P36, P40, P41: without steps, or without variables, there are no rows.
 func TestRowsOfNothing(t *testing.T) {
+	t.Parallel()
 	for _, p := range []impl.Prog{{}, {Labels: []impl.Label{}, Steps: []impl.Step{}}} {
 		checkNoPairs(t, p, "nothing")
 	}
@@ -655,6 +673,7 @@ func secrets(steps ...impl.Step) impl.Prog {
 
 // P34, P37, P39, P42: hosts that there are not.
 func TestRowsOfHostsThatThereAreNot(t *testing.T) {
+	t.Parallel()
 	want := rows(unit(2), unit(2, 0))
 	for _, p := range []impl.Prog{secrets(), secrets(when(0, []impl.Step{tell(1, 0)}, nil))} {
 		for host := range 3 {
@@ -672,6 +691,7 @@ func TestRowsOfHostsThatThereAreNot(t *testing.T) {
 
 // P34 to P42: of a program that is not ok no rows are told, though of the rest of it there would be.
 func TestRowsOfWrongPrograms(t *testing.T) {
+	t.Parallel()
 	leaf := []impl.Step{tell(0, 0)}
 	for many := 5; many < 8; many++ {
 		p := secrets()
@@ -710,6 +730,7 @@ func TestRowsOfWrongPrograms(t *testing.T) {
 
 // P34 to P42: a wrong step stands anywhere, also where it is not done with any row.
 func TestRowsOfWrongSteps(t *testing.T) {
+	t.Parallel()
 	for _, s := range wrongSteps() {
 		for _, steps := range [][]impl.Step{
 			{s}, {when(0, []impl.Step{s}, nil)}, {when(0, nil, []impl.Step{s})}, {set(1, num(0)), when(1, []impl.Step{s}, nil)}, {set(1, num(9)), when(1, nil, []impl.Step{when(0, nil, []impl.Step{s})})},
@@ -721,6 +742,7 @@ func TestRowsOfWrongSteps(t *testing.T) {
 
 // P34 to P42: each limit may be met exactly, and rows are told.
 func TestRowsAtTheLimits(t *testing.T) {
+	t.Parallel()
 	full := labelled([]string{"!", "!", "!012", "!"},
 		when(0, []impl.Step{when(1, []impl.Step{tell(3, 0), set(2, taken(3))}, nil)}, nil),
 		tell(2, 1), when(3, nil, nil), set(3, num(0)), tell(3, 2),
@@ -741,6 +763,7 @@ func TestRowsAtTheLimits(t *testing.T) {
 
 // P34, P39: nothing is written into a program, nor behind the end of its lists, and both rows are new memory and share none.
 func TestRowsAreNewMemory(t *testing.T) {
+	t.Parallel()
 	mark := impl.Label{Know: 91, Trust: 92}
 	some := 0
 	for _, p := range leakyProgs()[1500:4000] {
@@ -787,6 +810,7 @@ func TestRowsAreNewMemory(t *testing.T) {
 
 // P34, P39: what is not ok is not written into either.
 func TestRowsOfWhatIsNotOkShareNothing(t *testing.T) {
+	t.Parallel()
 	for _, s := range wrongSteps() {
 		var lists, were [][]impl.Step
 		wrong := secrets(when(0, []impl.Step{set(1, num(2)), s}, nil))
@@ -805,6 +829,7 @@ func TestRowsOfWhatIsNotOkShareNothing(t *testing.T) {
 
 // P34, P39: the same is answered again, whatever was asked in between.
 func TestRowsKeepNothing(t *testing.T) {
+	t.Parallel()
 	progs := leakyProgs()
 	var first []pair
 	for _, p := range progs {

@@ -267,6 +267,7 @@ func checkPlans(t *testing.T, a asking) planned {
 
 // P59, P63, P64, P65
 func TestPlansOfManyPrograms(t *testing.T) {
+	t.Parallel()
 	seen := map[string]int{}
 	for _, a := range plannedProgs() {
 		got, none, vars := checkPlans(t, a), a.lack(a.trusts), len(a.prog.Labels)
@@ -315,6 +316,7 @@ func smallProgs() []asking {
 
 // P59, P63, P64: each plan that there may be, in the order of its homes, then of who does what; the one that is found is the first that is one.
 func TestEachPlanOfSmallPrograms(t *testing.T) {
+	t.Parallel()
 	seen := map[string]int{}
 	for _, a := range smallProgs() {
 		var first planned
@@ -383,6 +385,7 @@ func checkIs(t *testing.T, p impl.Prog, plan impl.Plan, want bool, what string) 
 
 // P59, P60, P61: all is where it may be, the program is fine, and that is what the chapters of labels and of what is fine say.
 func TestInAPlanAllIsWhereItMayBe(t *testing.T) {
+	t.Parallel()
 	for _, x := range plansFound(t) {
 		p, plan := x.prog, x.plan
 		checkIs(t, p, plan, true, "a plan")
@@ -415,6 +418,7 @@ func TestInAPlanAllIsWhereItMayBe(t *testing.T) {
 
 // P59: with another home of one variable, or another host that does one step, it is a plan just if that may be.
 func TestPlansWithOneOtherHost(t *testing.T) {
+	t.Parallel()
 	seen := map[bool]int{}
 	for i, x := range plansFound(t) {
 		if i%5 > 0 {
@@ -446,6 +450,7 @@ func TestPlansWithOneOtherHost(t *testing.T) {
 
 // P60: each label, at each place among others, whoever trusts whom.
 func TestAHomeMayKnowItsVariableAndIsTrusted(t *testing.T) {
+	t.Parallel()
 	for i, a := range allLabels() {
 		vars := 1 + i%4
 		for _, trusts := range allTrusts() {
@@ -467,6 +472,7 @@ func TestAHomeMayKnowItsVariableAndIsTrusted(t *testing.T) {
 
 // P60: of programs with steps, fine or not, it is the label alone.
 func TestHomesHangOnLabelsAlone(t *testing.T) {
+	t.Parallel()
 	c := chance(34)
 	all := allTrusts()
 	for _, p := range leakyProgs()[:4000] {
@@ -497,6 +503,7 @@ func checkSteps(t *testing.T, a asking, homes []int, seen map[bool]int) {
 
 // P61: programs of all kinds and shapes, fine or not, with homes that may be and others.
 func TestWhoMayDoStepsOfManyPrograms(t *testing.T) {
+	t.Parallel()
 	c := chance(35)
 	all := allTrusts()
 	seen := map[bool]int{}
@@ -523,6 +530,7 @@ func TestWhoMayDoStepsOfManyPrograms(t *testing.T) {
 
 // P61: each plain step, alone and in others, with all homes.
 func TestWhoMayDoEachStep(t *testing.T) {
+	t.Parallel()
 	c := chance(36)
 	all := allTrusts()
 	seen := map[bool]int{}
@@ -568,6 +576,7 @@ func checkDoing(t *testing.T, cases []doing) {
 
 // P61: worked out by hand.
 func TestWhoMayDoStepsOneByOne(t *testing.T) {
+	t.Parallel()
 	labels := []string{"01!0", "12!1", "012!2"}
 	inside := []impl.Step{when(0, []impl.Step{set(2, taken(1)), tell(1, 1), when(1, nil, nil), set(0, num(3)), set(1, alike(2, 2))}, nil)}
 	// Who trusts what is set in it, too: all, by its last ones.
@@ -618,6 +627,7 @@ func TestWhoMayDoStepsOneByOne(t *testing.T) {
 
 // P60, P61: homes that may not know that a step is done: of what is read, and of what is set, in each kind of step, by a host, or by another.
 func TestHomesThatMayNotKnowThatItIsDone(t *testing.T) {
+	t.Parallel()
 	for host := range 3 {
 		other := (host + 1) % 3
 		h := fmt.Sprint(host)
@@ -648,6 +658,7 @@ func TestHomesThatMayNotKnowThatItIsDone(t *testing.T) {
 
 // P62: also of all plans that there are of a small program, and of what more trust makes of one.
 func TestWithEverybodyTrustingEverybodyAPlanIsOneStill(t *testing.T) {
+	t.Parallel()
 	c := chance(37)
 	for _, x := range plansFound(t) {
 		more := impl.Plan{Trusts: trusting(), Homes: x.plan.Homes, Does: x.plan.Does}
@@ -674,6 +685,7 @@ func TestWithEverybodyTrustingEverybodyAPlanIsOneStill(t *testing.T) {
 
 // P64: none stands ahead: neither with homes that are less, nor with less who do the steps.
 func TestAPlanThatIsFoundDoesNotStandBehind(t *testing.T) {
+	t.Parallel()
 	for _, x := range plansFound(t) {
 		got := planFind(x.prog, x.trusts)
 		if !got.ok || slices.Compare(slices.Concat(got.plan.Homes, got.plan.Does), slices.Concat(x.plan.Homes, x.plan.Does)) > 0 || !slices.Equal(got.plan.Trusts, x.trusts) {
@@ -684,6 +696,7 @@ func TestAPlanThatIsFoundDoesNotStandBehind(t *testing.T) {
 
 // P65: with all homes, whatever may be.
 func TestWhereSomethingLacksThereIsNoPlan(t *testing.T) {
+	t.Parallel()
 	variables, steps := 0, 0
 	for _, a := range plannedProgs() {
 		got := planLack(a.prog, a.trusts)
@@ -723,6 +736,7 @@ func TestWhereSomethingLacksThereIsNoPlan(t *testing.T) {
 
 // P66
 func TestAHostThatAllTrustMayDoAllJustIfItMayKnowAll(t *testing.T) {
+	t.Parallel()
 	seen := map[string]int{}
 	for i, a := range plannedProgs() {
 		for host, h := range []string{"0", "1", "2"} {
@@ -754,6 +768,7 @@ func TestAHostThatAllTrustMayDoAllJustIfItMayKnowAll(t *testing.T) {
 
 // P67
 func TestWithEverybodyTrustingEverybodyAHomeIsOneStill(t *testing.T) {
+	t.Parallel()
 	for _, a := range allLabels() {
 		p := impl.Prog{Labels: []impl.Label{a.label}}
 		for host, h := range []string{"0", "1", "2"} {
@@ -772,6 +787,7 @@ func TestWithEverybodyTrustingEverybodyAHomeIsOneStill(t *testing.T) {
 
 // P68
 func TestWithEverybodyTrustingEverybodyWhoMayDoAStepMayDoItStill(t *testing.T) {
+	t.Parallel()
 	c := chance(38)
 	all := allTrusts()
 	more := 0
@@ -818,6 +834,7 @@ func shorter(list []int) [][]int {
 
 // P69
 func TestWithOneMoreOrAHostLessItIsNoPlan(t *testing.T) {
+	t.Parallel()
 	for i, x := range plansFound(t) {
 		if i%5 > 0 {
 			continue
@@ -858,6 +875,7 @@ func turnedTrusts(trusts []int, row []int) []int {
 
 // P70: of hosts by other names the plan is one, and what lacks lacks still.
 func TestAPlanTurnedIsOneOfTheProgramTurned(t *testing.T) {
+	t.Parallel()
 	seen := map[bool]int{}
 	for i, x := range plansFound(t) {
 		row := rowFor(i, 3)
@@ -907,6 +925,7 @@ func lacking(a asking) []int {
 
 // P71: a step that lacks is the same; of variables the one that is first by the new names.
 func TestWithOtherNamesOfVariablesTheSameStepIsTold(t *testing.T) {
+	t.Parallel()
 	seen := map[string]int{}
 	for i, a := range plannedProgs() {
 		vars := len(a.prog.Labels)
@@ -982,6 +1001,7 @@ func checkHandPlanned(t *testing.T, cases []handPlanned) {
 
 // P60, P63, P64, P65, P67: homes alone, worked out by hand; of several the first is taken.
 func TestHomesOneByOne(t *testing.T) {
+	t.Parallel()
 	checkHandPlanned(t, []handPlanned{
 		{nil, nil, alone(), "/"}, {nil, nil, trusting(), "/"}, {nil, nil, []int{3, 6, 5}, "/"},
 		{[]string{"012!"}, nil, alone(), "0/"}, {[]string{"12!"}, nil, alone(), "1/"}, {[]string{"02!"}, nil, alone(), "0/"}, {[]string{"2!"}, nil, alone(), "2/"},
@@ -1002,6 +1022,7 @@ func TestHomesOneByOne(t *testing.T) {
 
 // P61, P63, P64, P65, P68: with steps, worked out by hand.
 func TestPlansOneByOne(t *testing.T) {
+	t.Parallel()
 	checkHandPlanned(t, []handPlanned{
 		{[]string{"012!"}, []impl.Step{tell(0, 2)}, alone(), "0/0"}, {[]string{"12!"}, []impl.Step{tell(0, 2)}, alone(), "1/1"}, {[]string{"2!"}, []impl.Step{tell(0, 2)}, alone(), "2/2"},
 		{[]string{"012!", "2!"}, []impl.Step{tell(1, 2), tell(0, 2)}, alone(), "02/20"},
@@ -1040,6 +1061,7 @@ func TestPlansOneByOne(t *testing.T) {
 
 // P64, P65: a step that lacks whatever the homes are, one that lacks just with all that may be, one that lacks with some, and two that lack with none alike.
 func TestStepsThatLackOneByOne(t *testing.T) {
+	t.Parallel()
 	checkHandPlanned(t, []handPlanned{
 		// Who may know b may not know that it is asked.
 		{[]string{"0!", "1!"}, []impl.Step{when(0, []impl.Step{when(1, nil, nil)}, nil)}, trusting(), "lack 3"},
@@ -1122,6 +1144,7 @@ func noTrusts() [][]int {
 
 // P59, P60, P61, P63, P65, P69: also of a program without steps, and of one without variables.
 func TestWhoTrustsWhomIsNotTold(t *testing.T) {
+	t.Parallel()
 	for _, p := range []impl.Prog{{}, progOf(1), labelled([]string{"!"}), labelled([]string{"012!"}, tell(0, 0)), labelled([]string{"012!", "12!"}, set(1, taken(0)), when(1, []impl.Step{tell(0, 2)}, nil)), progOf(4, slices.Repeat([]impl.Step{set(3, num(9))}, 8)...)} {
 		for _, trusts := range noTrusts() {
 			checkNoPlan(t, p, trusts, written(p))
@@ -1147,6 +1170,7 @@ func noHosts() []int {
 
 // P59, P60, P61, P69: hosts that there are not.
 func TestHomesAndHostsThatThereAreNot(t *testing.T) {
+	t.Parallel()
 	p := labelled([]string{"012!", "012!", "012!"}, set(0, num(1)), when(1, []impl.Step{tell(0, 0)}, nil), set(0, sum(0, 1)))
 	plan := impl.Plan{Trusts: alone(), Homes: []int{0, 1, 2}, Does: []int{0, 1, 2, 0}}
 	checkIs(t, p, plan, true, "a plan")
@@ -1182,6 +1206,7 @@ func TestHomesAndHostsThatThereAreNot(t *testing.T) {
 
 // P60, P61: variables and numbers of steps that there are not, and homes that are too few or too many.
 func TestVariablesAndStepsThatThereAreNot(t *testing.T) {
+	t.Parallel()
 	for vars := range 5 {
 		for size := range 9 {
 			if vars == 0 && size > 0 {
@@ -1222,6 +1247,7 @@ func TestVariablesAndStepsThatThereAreNot(t *testing.T) {
 
 // P59, P63, P65: a program that is ok and not fine: there is no plan, and nothing lacks; who may have what, and do what, is told still.
 func TestPlansOfProgramsThatAreNotFine(t *testing.T) {
+	t.Parallel()
 	many := 0
 	seen := map[bool]int{}
 	for i, p := range leakyProgs() {
@@ -1262,6 +1288,7 @@ func checkNeverPlan(t *testing.T, p impl.Prog, what string) {
 
 // P59, P60, P61, P63, P65
 func TestPlansOfWrongPrograms(t *testing.T) {
+	t.Parallel()
 	leaf := []impl.Step{set(0, num(1))}
 	for many := 5; many < 8; many++ {
 		checkNeverPlan(t, progOf(many), "too many labels")
@@ -1297,6 +1324,7 @@ func TestPlansOfWrongPrograms(t *testing.T) {
 
 // P59, P60, P61, P63, P65: a wrong step stands anywhere.
 func TestPlansOfWrongSteps(t *testing.T) {
+	t.Parallel()
 	for _, s := range wrongSteps() {
 		for _, steps := range [][]impl.Step{
 			{s}, {set(0, num(1)), s}, {s, set(0, taken(1))}, {when(0, []impl.Step{s}, nil)}, {when(1, nil, []impl.Step{set(0, num(1)), s})}, {when(0, nil, []impl.Step{when(1, []impl.Step{s}, nil)})},
@@ -1308,6 +1336,7 @@ func TestPlansOfWrongSteps(t *testing.T) {
 
 // P59, P63, P64: the empty list and the nil list are the same.
 func TestPlansOfNothing(t *testing.T) {
+	t.Parallel()
 	for _, p := range []impl.Prog{{}, {Labels: []impl.Label{}, Steps: []impl.Step{}}} {
 		for _, trusts := range allTrusts() {
 			for _, none := range [][]int{nil, {}} {
@@ -1331,6 +1360,7 @@ func TestPlansOfNothing(t *testing.T) {
 
 // P59 to P65: as much as there may be, of each shape.
 func TestPlansAtTheLimits(t *testing.T) {
+	t.Parallel()
 	all := allTrusts()
 	found := 0
 	for i, p := range okShapes(9) {
@@ -1352,6 +1382,7 @@ func TestPlansAtTheLimits(t *testing.T) {
 
 // P59, P63: nothing is written into a program, into who trusts whom, or into a plan, nor behind the end of them; each plan that is answered is new memory.
 func TestPlansAreNewMemory(t *testing.T) {
+	t.Parallel()
 	mark := impl.Label{Know: 91, Trust: 92}
 	for i, a := range plannedProgs() {
 		if i%3 > 0 {
@@ -1397,6 +1428,7 @@ func TestPlansAreNewMemory(t *testing.T) {
 
 // P63: no two lists of a plan share any memory, also behind the end of them.
 func TestPlansShareNoLists(t *testing.T) {
+	t.Parallel()
 	for i, a := range plannedProgs() {
 		if i%3 > 0 {
 			continue
@@ -1423,6 +1455,7 @@ func TestPlansShareNoLists(t *testing.T) {
 
 // P59, P63: what is not ok is not written into either.
 func TestWhatIsNoPlanIsNotWrittenInto(t *testing.T) {
+	t.Parallel()
 	for _, wrong := range noTrusts()[:40] {
 		trusts, whole := marked(wrong, 7)
 		was := slices.Clone(whole)
@@ -1448,6 +1481,7 @@ func TestWhatIsNoPlanIsNotWrittenInto(t *testing.T) {
 
 // P59, P63, P65: the same is answered again, whatever was asked in between.
 func TestPlansKeepNothing(t *testing.T) {
+	t.Parallel()
 	asked := plannedProgs()
 	var found []planned
 	var none []lack

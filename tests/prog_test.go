@@ -315,6 +315,7 @@ func checkNone(t *testing.T, p impl.Prog, what string) {
 
 // P9
 func TestProgramsFirstStepsAreOneAndSoIsTheRest(t *testing.T) {
+	t.Parallel()
 	for _, p := range append(manyProgs(3000), okShapes(9)...) {
 		for k := range len(p.Steps) + 1 {
 			first := impl.Prog{Labels: p.Labels, Steps: p.Steps[:k]}
@@ -335,6 +336,7 @@ func TestProgramsFirstStepsAreOneAndSoIsTheRest(t *testing.T) {
 
 // P10, P11: every way in which steps may stand beside and in each other, up to one more than there may be.
 func TestProgramsOfEachShape(t *testing.T) {
+	t.Parallel()
 	known := map[int][][]impl.Step{}
 	for size := range 10 {
 		ok, none := 0, 0
@@ -363,6 +365,7 @@ func TestProgramsOfEachShape(t *testing.T) {
 
 // P10, P11, P12
 func TestProgramsOfManyKinds(t *testing.T) {
+	t.Parallel()
 	sizes := map[int]int{}
 	for _, p := range manyProgs(3000) {
 		checkProg(t, p)
@@ -377,6 +380,7 @@ func TestProgramsOfManyKinds(t *testing.T) {
 
 // P10, P11
 func TestProgramOneByOne(t *testing.T) {
+	t.Parallel()
 	p := impl.Prog{Labels: freely(4), Steps: []impl.Step{
 		when(0, []impl.Step{
 			when(1, []impl.Step{set(0, num(1))}, []impl.Step{set(0, num(2))}),
@@ -403,6 +407,7 @@ func TestProgramOneByOne(t *testing.T) {
 
 // P12: any two of these programs are the same just if their texts are.
 func TestProgramsAreTheSameJustIfTheirTextsAre(t *testing.T) {
+	t.Parallel()
 	progs := append(manyProgs(5000), okShapes(9)...)
 	for vars := range 5 {
 		for _, a := range allLabels() {
@@ -437,6 +442,7 @@ func TestProgramsAreTheSameJustIfTheirTextsAre(t *testing.T) {
 
 // P9, P12: the empty list and the nil list are the same.
 func TestProgramsWithEmptyLists(t *testing.T) {
+	t.Parallel()
 	none := []impl.Step{}
 	p := impl.Prog{Labels: freely(1), Steps: []impl.Step{
 		{Kind: impl.StepSet, Val: num(9), Then: none, Else: none},
@@ -458,6 +464,7 @@ func TestProgramsWithEmptyLists(t *testing.T) {
 
 // P9, P12: each limit is met exactly, and one more refused.
 func TestProgramsAtTheirLimits(t *testing.T) {
+	t.Parallel()
 	if impl.ProgVars != 4 || impl.ProgSteps != 8 || impl.ProgDeep != 3 || impl.ProgNums != 10 {
 		t.Fatal("limits")
 	}
@@ -505,6 +512,7 @@ func TestProgramsAtTheirLimits(t *testing.T) {
 
 // P12: the parts of a step, and of its value, are tried in all ways, right and wrong.
 func TestStepsInForm(t *testing.T) {
+	t.Parallel()
 	for vars := range 5 {
 		plain := map[flatStep]bool{}
 		for _, s := range plainSteps(vars) {
@@ -541,6 +549,7 @@ func farNumbers() []int {
 
 // P9, P10, P11, P12: one part of a step that is in form, and stands anywhere, is wrong.
 func TestStepsWithOneWrongPart(t *testing.T) {
+	t.Parallel()
 	plain := []impl.Step{tell(0, 0), set(0, num(1))}
 	for _, good := range plainSteps(2) {
 		var wrong []impl.Step
@@ -575,6 +584,7 @@ func TestStepsWithOneWrongPart(t *testing.T) {
 
 // P9, P10, P12: without variables there is no step; a label that is not ok is none.
 func TestProgramsWithWrongLabels(t *testing.T) {
+	t.Parallel()
 	for _, s := range plainSteps(1) {
 		checkNone(t, impl.Prog{Steps: []impl.Step{s}}, "a step without variables")
 		checkNone(t, impl.Prog{Labels: []impl.Label{}, Steps: []impl.Step{s}}, "a step without variables")
@@ -594,6 +604,7 @@ func TestProgramsWithWrongLabels(t *testing.T) {
 
 // P9, P10, P11, P12: steps that stand in themselves, or in far too many places, are refused, and that ends.
 func TestStepsWithoutEnd(t *testing.T) {
+	t.Parallel()
 	loop := []impl.Step{when(0, nil, nil)}
 	loop[0].Then = loop
 	checkNone(t, impl.Prog{Labels: freely(1), Steps: loop}, "steps in themselves")
@@ -646,6 +657,7 @@ func spoil(steps []impl.Step) {
 
 // P9, P10, P11, P12: nothing is written into a program, nor behind the end of its lists.
 func TestProgramsAreNotWrittenInto(t *testing.T) {
+	t.Parallel()
 	for _, p := range manyProgs(400) {
 		var lists [][]impl.Step
 		labels := append(slices.Clone(p.Labels), impl.Label{Know: 91, Trust: 92}, impl.Label{Know: 93, Trust: 94})
@@ -668,6 +680,7 @@ func TestProgramsAreNotWrittenInto(t *testing.T) {
 
 // P11: what ProgAt answers is new memory.
 func TestProgAtIsNewMemory(t *testing.T) {
+	t.Parallel()
 	for _, p := range manyProgs(400) {
 		for n, want := range inOrder(deepCopy(p.Steps)) {
 			var lists [][]impl.Step
@@ -688,6 +701,7 @@ func TestProgAtIsNewMemory(t *testing.T) {
 
 // P11: no two lists of one answer share any memory, also where those of the program do.
 func TestProgAtSharesNoListsInItself(t *testing.T) {
+	t.Parallel()
 	leaf := make([]impl.Step, 1, 4)
 	leaf[0] = set(0, num(5))
 	empty := make([]impl.Step, 0, 4)

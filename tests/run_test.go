@@ -164,6 +164,7 @@ func doneProgs(t *testing.T) []doneProg {
 
 // P13
 func TestNumsAreWhatWasSetLast(t *testing.T) {
+	t.Parallel()
 	most, again := 0, 0
 	for _, d := range doneProgs(t) {
 		last := slices.Clone(d.nums)
@@ -188,6 +189,7 @@ func TestNumsAreWhatWasSetLast(t *testing.T) {
 
 // P13: as many as there may be are set, or told, and all of them are there in order.
 func TestAsMuchIsDoneAsThereMayBe(t *testing.T) {
+	t.Parallel()
 	p, q := progOf(2), progOf(2)
 	var writes []impl.Write
 	var said []impl.Said
@@ -207,6 +209,7 @@ func TestAsMuchIsDoneAsThereMayBe(t *testing.T) {
 
 // P14
 func TestFirstStepsThenTheRest(t *testing.T) {
+	t.Parallel()
 	for _, d := range doneProgs(t) {
 		for k := range len(d.prog.Steps) + 1 {
 			first := run(t, impl.Prog{Labels: d.prog.Labels, Steps: d.prog.Steps[:k]}, d.nums)
@@ -221,6 +224,7 @@ func TestFirstStepsThenTheRest(t *testing.T) {
 
 // P15: numbers at and past both ends, at each place, and more or fewer than variables.
 func TestNumbersOfVariables(t *testing.T) {
+	t.Parallel()
 	for vars := range 5 {
 		steps := []impl.Step{tell(0, 0), set(0, num(3))}[:min(vars, 1)*2]
 		for size := range 7 {
@@ -267,6 +271,7 @@ func checkNeverRun(t *testing.T, p impl.Prog, what string) {
 
 // P15: a program that is not ok is not done, also if what is wrong would not be.
 func TestWrongProgramsAreNotDone(t *testing.T) {
+	t.Parallel()
 	for many := 5; many < 8; many++ {
 		checkNeverRun(t, progOf(many), "too many labels")
 		checkNeverRun(t, progOf(many, tell(0, 0), tell(many-1, 0)), "too many labels")
@@ -310,6 +315,7 @@ func wrongSteps() []impl.Step {
 
 // P15: a wrong step stands where it would be done, or where it would not.
 func TestWrongStepsAreNotDone(t *testing.T) {
+	t.Parallel()
 	fine := []impl.Step{tell(0, 0)}
 	for _, s := range wrongSteps() {
 		for _, steps := range [][]impl.Step{
@@ -326,6 +332,7 @@ func TestWrongStepsAreNotDone(t *testing.T) {
 
 // P13, P15: without steps all stays as it was; without variables nothing comes of it, and that is done too.
 func TestNothingToDo(t *testing.T) {
+	t.Parallel()
 	for _, p := range []impl.Prog{{}, {Labels: []impl.Label{}, Steps: []impl.Step{}}} {
 		for _, nums := range [][]int{nil, {}} {
 			if r := checkRun(t, p, nums); len(r.Nums)+len(r.Writes)+len(r.Said) != 0 {
@@ -349,6 +356,7 @@ func TestNothingToDo(t *testing.T) {
 
 // P16: what is told to the hosts, one by one, is all that is told, each in order; nothing is told to others.
 func TestAllThatIsToldIsToldToSomeHost(t *testing.T) {
+	t.Parallel()
 	quiet := 0
 	for _, d := range doneProgs(t) {
 		var heard [3][]int
@@ -382,6 +390,7 @@ func TestAllThatIsToldIsToldToSomeHost(t *testing.T) {
 
 // P16: one host is told a number twice, one once, one never; a number is told as it was then.
 func TestHostsAreToldOneByOne(t *testing.T) {
+	t.Parallel()
 	r := run(t, progOf(2, tell(0, 2), set(0, num(5)), tell(0, 0), tell(1, 2), set(1, taken(0)), tell(0, 2)), []int{1, 1})
 	for host, want := range [][]int{{5}, nil, {1, 1, 5}} {
 		if got := impl.RunTo(r, host); !slices.Equal(got, want) {
@@ -392,6 +401,7 @@ func TestHostsAreToldOneByOne(t *testing.T) {
 
 // P16: what is told to hosts is picked from any run, whatever else stands there.
 func TestRunToOfAnyRun(t *testing.T) {
+	t.Parallel()
 	r := impl.Run{Said: []impl.Said{{Host: 1, Num: -5}, {Host: -1, Num: 1}, {Host: 3, Num: 2}, {Host: 0, Num: 77}, {Host: 1, Num: math.MaxInt}, {Host: 257, Num: 3}, {Host: 1 << 32, Num: 4}, {Host: 1, Num: -5}}}
 	for host, want := range [][]int{{77}, {-5, math.MaxInt, -5}, nil} {
 		if got := impl.RunTo(r, host); !slices.Equal(got, want) {
@@ -425,6 +435,7 @@ func setOf(writes []impl.Write, vars []bool) []impl.Write {
 
 // P17
 func TestAllThatIsSetIsOfSomeOrOfAllOthers(t *testing.T) {
+	t.Parallel()
 	for _, d := range doneProgs(t) {
 		for _, row := range rowsOver(len(d.nums), 0, 1) {
 			some := truths(row)
@@ -448,6 +459,7 @@ func TestAllThatIsSetIsOfSomeOrOfAllOthers(t *testing.T) {
 
 // P17: rows that are shorter or longer than there are variables; there is no true of what stands in none.
 func TestRowsOfOtherSizes(t *testing.T) {
+	t.Parallel()
 	r := run(t, progOf(4, set(3, num(1)), set(0, num(2)), set(1, num(3)), set(2, num(4)), set(0, num(5)), set(3, num(6))), []int{0, 0, 0, 0})
 	all := []impl.Write{{Var: 3, Num: 1}, {Var: 0, Num: 2}, {Var: 1, Num: 3}, {Var: 2, Num: 4}, {Var: 0, Num: 5}, {Var: 3, Num: 6}}
 	for _, c := range []struct {
@@ -467,6 +479,7 @@ func TestRowsOfOtherSizes(t *testing.T) {
 
 // P17: what was set of variables that there are not.
 func TestRunSetsOfAnyRun(t *testing.T) {
+	t.Parallel()
 	r := impl.Run{Nums: []int{1, 2}}
 	for _, v := range append(farNumbers(), 1, -2, 4, 0, 5, 7, 1) {
 		r.Writes = append(r.Writes, impl.Write{Var: v, Num: v - 1})
@@ -487,6 +500,7 @@ func TestRunSetsOfAnyRun(t *testing.T) {
 
 // P18
 func TestStepIfOfAllSteps(t *testing.T) {
+	t.Parallel()
 	done := map[bool]int{}
 	for _, d := range doneProgs(t) {
 		if len(inOrder(d.prog.Steps)) > 7 || depthOf(d.prog.Steps) > 2 {
@@ -509,6 +523,7 @@ func TestStepIfOfAllSteps(t *testing.T) {
 
 // P18: every number but 0 does Then; which is looked at once, whatever is set in it.
 func TestStepIfByEachNumber(t *testing.T) {
+	t.Parallel()
 	p := progOf(1, when(0, []impl.Step{set(0, num(0)), tell(0, 1)}, []impl.Step{set(0, num(8)), tell(0, 2)}))
 	for n := range 10 {
 		want := impl.Run{Nums: []int{0}, Writes: []impl.Write{{Var: 0, Num: 0}}, Said: []impl.Said{{Host: 1, Num: 0}}}
@@ -523,6 +538,7 @@ func TestStepIfByEachNumber(t *testing.T) {
 
 // P13, P18: of steps in steps in steps those on one way are done, and no others.
 func TestStepsThatAreNotDone(t *testing.T) {
+	t.Parallel()
 	mark := func(n int) []impl.Step { return []impl.Step{set(2, num(n))} }
 	p := progOf(3, when(0, []impl.Step{when(1, mark(1), mark(2))}, []impl.Step{when(1, mark(3), mark(4))}), tell(2, 0))
 	for _, c := range [][3]int{{1, 1, 1}, {9, 0, 2}, {0, 5, 3}, {0, 0, 4}} {
@@ -549,6 +565,7 @@ func TestStepsThatAreNotDone(t *testing.T) {
 
 // P13, P18: every shape of steps, with a number of each variable that does all Then, or all Else, or some.
 func TestStepsOfEachShapeAreDone(t *testing.T) {
+	t.Parallel()
 	for _, p := range okShapes(8) {
 		for _, row := range [][]int{{0, 0, 0, 0}, {1, 1, 1, 1}, {0, 9, 0, 9}, {5, 0, 0, 2}} {
 			checkRun(t, p, row)
@@ -558,6 +575,7 @@ func TestStepsOfEachShapeAreDone(t *testing.T) {
 
 // P19
 func TestEachValueIsWhatTheTableSays(t *testing.T) {
+	t.Parallel()
 	for text, val := range plainVals(4) {
 		for a := range 10 {
 			for b := range 10 {
@@ -577,6 +595,7 @@ func TestEachValueIsWhatTheTableSays(t *testing.T) {
 
 // P19: values at their edges, worked out by hand.
 func TestValuesOneByOne(t *testing.T) {
+	t.Parallel()
 	for _, c := range []struct {
 		val        impl.Val
 		a, b, want int
@@ -598,6 +617,7 @@ func TestValuesOneByOne(t *testing.T) {
 
 // P19: a value is of the numbers by then, not of those at first.
 func TestValuesOfWhatWasSetAhead(t *testing.T) {
+	t.Parallel()
 	r := checkRun(t, progOf(2, set(0, sum(0, 1)), set(1, sum(0, 1)), set(0, sum(0, 1)), set(1, alike(0, 1)), set(0, sum(0, 0)), set(0, taken(1)), set(1, num(0)), set(1, alike(0, 1))), []int{3, 4})
 	want := []impl.Write{{Var: 0, Num: 7}, {Var: 1, Num: 1}, {Var: 0, Num: 8}, {Var: 1, Num: 0}, {Var: 0, Num: 6}, {Var: 0, Num: 0}, {Var: 1, Num: 0}, {Var: 1, Num: 1}}
 	if !sameRun(r, impl.Run{Nums: []int{0, 1}, Writes: want}) {
@@ -607,6 +627,7 @@ func TestValuesOfWhatWasSetAhead(t *testing.T) {
 
 // P20
 func TestNumberAndItselfInEitherOrder(t *testing.T) {
+	t.Parallel()
 	for vars := 2; vars < 5; vars++ {
 		for a := range vars {
 			for b := range vars {
@@ -631,6 +652,7 @@ func TestNumberAndItselfInEitherOrder(t *testing.T) {
 
 // P20: also among other steps.
 func TestNumberAndItselfAmongOthers(t *testing.T) {
+	t.Parallel()
 	c := chance(4)
 	for _, d := range doneProgs(t) {
 		vars := len(d.nums)
@@ -678,6 +700,7 @@ func copyRun(r impl.Run) impl.Run {
 
 // P13, P15: nothing is written into a program or its numbers, nor behind their ends, and what comes of it is new memory.
 func TestRunOfIsNewMemory(t *testing.T) {
+	t.Parallel()
 	for _, d := range doneProgs(t)[:4000] {
 		var lists, were [][]impl.Step
 		labels, allLabels := marked(d.prog.Labels, impl.Label{Know: 91, Trust: 92})
@@ -706,6 +729,7 @@ func TestRunOfIsNewMemory(t *testing.T) {
 
 // P15: where a program is not done nothing is written either, and nothing of it is handed out.
 func TestWhatIsNotDoneIsNotWrittenInto(t *testing.T) {
+	t.Parallel()
 	for _, wrong := range [][]int{{3}, {3, 4, 5}, {3, 10}, {-1, 4}} {
 		nums, whole := marked(wrong, 55)
 		var lists, were [][]impl.Step
@@ -723,6 +747,7 @@ func TestWhatIsNotDoneIsNotWrittenInto(t *testing.T) {
 
 // P16, P17: nothing is written into a run, nor behind the end of its lists, and what is picked from it is new memory.
 func TestWhatIsPickedIsNewMemory(t *testing.T) {
+	t.Parallel()
 	for _, d := range doneProgs(t)[:4000] {
 		var r, whole impl.Run
 		r.Nums, whole.Nums = marked(d.run.Nums, 55)
@@ -759,6 +784,7 @@ func TestWhatIsPickedIsNewMemory(t *testing.T) {
 
 // P13, P15: the same is answered again, whatever was asked in between.
 func TestRunsKeepNothing(t *testing.T) {
+	t.Parallel()
 	done := doneProgs(t)
 	for i := len(done) - 1; i >= 0; i-- {
 		d := done[i]

@@ -275,6 +275,7 @@ func rowFor(i, many int) []int {
 
 // P50
 func TestSetHasJustTheNewNamesOfItsHosts(t *testing.T) {
+	t.Parallel()
 	rows := nameRows(3)
 	if len(rows) != 6 {
 		t.Fatal(rows)
@@ -305,6 +306,7 @@ func TestSetHasJustTheNewNamesOfItsHosts(t *testing.T) {
 
 // P50: written out, so that nothing is leaned on; a row that goes round has another one that turns back.
 func TestSetsOneByOne(t *testing.T) {
+	t.Parallel()
 	for _, c := range []struct {
 		row  []int
 		want [8]int
@@ -326,6 +328,7 @@ func TestSetsOneByOne(t *testing.T) {
 
 // P50: what is no set, and what is no row, is nobody.
 func TestSetsThatAreNotTurned(t *testing.T) {
+	t.Parallel()
 	for _, s := range noSets() {
 		for _, row := range nameRows(3) {
 			if got := impl.TurnSet(s, row); got != 0 {
@@ -347,6 +350,7 @@ func TestSetsThatAreNotTurned(t *testing.T) {
 
 // P50: nothing is written into a row, and what is behind its end is not of it.
 func TestRowsOfSetsAreNotWrittenInto(t *testing.T) {
+	t.Parallel()
 	for _, names := range nameRows(3) {
 		// With the mark the row would be one of four names.
 		row, whole := marked(names, 3)
@@ -375,6 +379,7 @@ func turnedLabel(t *testing.T, a impl.Label, row []int) impl.Label {
 
 // P51
 func TestTurningGoesWithWhatMayBecomeWhat(t *testing.T) {
+	t.Parallel()
 	for _, row := range nameRows(3) {
 		for _, a := range allLabels() {
 			for _, b := range allLabels() {
@@ -395,6 +400,7 @@ func TestTurningGoesWithWhatMayBecomeWhat(t *testing.T) {
 
 // P52: turned by each row of hosts, back, and by one row behind the other.
 func TestProgramTurnedAndTurnedBack(t *testing.T) {
+	t.Parallel()
 	rows := nameRows(3)
 	for i, p := range turnedProgs() {
 		for _, row := range rows {
@@ -412,6 +418,7 @@ func TestProgramTurnedAndTurnedBack(t *testing.T) {
 
 // P56: turned by each row of variables, back, and by one row behind the other.
 func TestVariablesTurnedAndTurnedBack(t *testing.T) {
+	t.Parallel()
 	for i, p := range turnedProgs() {
 		rows := nameRows(len(p.Labels))
 		for _, row := range rows {
@@ -429,6 +436,7 @@ func TestVariablesTurnedAndTurnedBack(t *testing.T) {
 
 // P52, P56: by the texts, byte by byte; hosts and variables are turned in either order.
 func TestTextsOfTurnedPrograms(t *testing.T) {
+	t.Parallel()
 	for i, p := range turnedProgs() {
 		hosts, vars := rowFor(i, 3), rowFor(i/6, len(p.Labels))
 		one, two := byHosts(t, byVars(t, p, vars), hosts), byVars(t, byHosts(t, p, hosts), vars)
@@ -443,6 +451,7 @@ func TestTextsOfTurnedPrograms(t *testing.T) {
 
 // P52, P56, P58: each step, alone and in others, by each row of hosts and of variables.
 func TestEachStepTurned(t *testing.T) {
+	t.Parallel()
 	labels := []string{"01!12", "12!0", "0!02", "012!2"}
 	for vars := 1; vars < 5; vars++ {
 		for text, s := range plainSteps(vars) {
@@ -484,6 +493,7 @@ func checkHandTurned(t *testing.T, p impl.Prog, of turner, cases []handTurned) {
 
 // P52, P56, P58: written out: steps in steps in steps, each kind of value, what is told to each host, and a number that is also a name.
 func TestTurnedProgramsOneByOne(t *testing.T) {
+	t.Parallel()
 	deep := []impl.Step{when(0, []impl.Step{tell(1, 0), when(1, nil, []impl.Step{tell(2, 1), set(0, num(2))})}, []impl.Step{tell(0, 2), set(1, taken(2))}), set(2, sum(0, 1))}
 	p := labelled([]string{"0!12", "12!", "!02"}, deep...)
 	checkHandTurned(t, p, turnProg, []handTurned{
@@ -522,6 +532,7 @@ func TestTurnedProgramsOneByOne(t *testing.T) {
 
 // P53: the same step, the labels and sets of steps by new names, and what the host by its new name knows and trusts.
 func TestOfATurnedProgramTheSameStepIsTold(t *testing.T) {
+	t.Parallel()
 	seen := map[bool]int{}
 	for i, p := range turnedProgs() {
 		n, bad := impl.TypeWhy(p)
@@ -557,6 +568,7 @@ func TestOfATurnedProgramTheSameStepIsTold(t *testing.T) {
 
 // P54
 func TestATurnedProgramTellsEachHostByItsNewNameTheSame(t *testing.T) {
+	t.Parallel()
 	c := chance(22)
 	toldOf := map[int]int{}
 	for i, p := range turnedProgs() {
@@ -592,6 +604,7 @@ func TestATurnedProgramTellsEachHostByItsNewNameTheSame(t *testing.T) {
 
 // P55
 func TestOfATurnedProgramTheSameRowsAreTold(t *testing.T) {
+	t.Parallel()
 	seen := map[string]int{}
 	for i, p := range turnedProgs() {
 		for _, row := range [][]int{rowFor(i, 3), rowFor(i+2, 3)} {
@@ -620,6 +633,7 @@ func TestOfATurnedProgramTheSameRowsAreTold(t *testing.T) {
 
 // P57
 func TestWithOtherNamesOfVariablesEachHasTheNumberItHad(t *testing.T) {
+	t.Parallel()
 	c := chance(23)
 	others := 0
 	for i, p := range turnedProgs() {
@@ -657,6 +671,7 @@ func TestWithOtherNamesOfVariablesEachHasTheNumberItHad(t *testing.T) {
 
 // P57: each variable keeps its label, so that the same step is told, the same is known, and the same leaks or not.
 func TestWithOtherNamesOfVariablesEachHasItsLabel(t *testing.T) {
+	t.Parallel()
 	for i, p := range turnedProgs() {
 		row := rowFor(i, len(p.Labels))
 		q := byVars(t, p, row)
@@ -686,6 +701,7 @@ func TestWithOtherNamesOfVariablesEachHasItsLabel(t *testing.T) {
 
 // P53, P57: labels that are found are those of the program turned.
 func TestFoundLabelsOfTurnedPrograms(t *testing.T) {
+	t.Parallel()
 	seen := map[bool]int{}
 	for i, x := range openProgs() {
 		if i%4 != 0 {
@@ -713,6 +729,7 @@ func TestFoundLabelsOfTurnedPrograms(t *testing.T) {
 
 // P58
 func TestTurnedByNothingAProgramStays(t *testing.T) {
+	t.Parallel()
 	for _, p := range slices.Concat(turnedProgs(), unevenShapes(8)) {
 		for _, got := range []turning{turnProg(p, unturned(3)), turnVars(p, unturned(len(p.Labels)))} {
 			if !got.is(turning{p, true}) || impl.ProgText(got.prog) != impl.ProgText(p) {
@@ -729,6 +746,7 @@ func TestTurnedByNothingAProgramStays(t *testing.T) {
 
 // P52, P56, P58: without steps, or variables, with one variable and with four, and as many steps as there may be.
 func TestTurnedProgramsOfNothingAndAtTheLimits(t *testing.T) {
+	t.Parallel()
 	for _, p := range []impl.Prog{{}, {Labels: []impl.Label{}, Steps: []impl.Step{}}} {
 		for _, row := range nameRows(3) {
 			if got := turnProg(p, row); !got.is(turning{impl.Prog{}, true}) {
@@ -777,6 +795,7 @@ func TestTurnedProgramsOfNothingAndAtTheLimits(t *testing.T) {
 
 // P52, P56: a row that is none turns no program, also if all that is in it stays unused.
 func TestRowsThatAreNoneTurnNothing(t *testing.T) {
+	t.Parallel()
 	for vars := range 5 {
 		labels := []string{"01!12", "12!0", "0!02", "012!2"}[:vars]
 		progs := []impl.Prog{labelled(labels)}
@@ -824,6 +843,7 @@ func checkNeverTurned(t *testing.T, p impl.Prog, what string) {
 
 // P52, P56
 func TestWrongProgramsAreNotTurned(t *testing.T) {
+	t.Parallel()
 	leaf := []impl.Step{set(0, num(1))}
 	for many := 5; many < 8; many++ {
 		checkNeverTurned(t, progOf(many), "too many labels")
@@ -859,6 +879,7 @@ func TestWrongProgramsAreNotTurned(t *testing.T) {
 
 // P52, P56: a wrong step stands anywhere.
 func TestWrongStepsAreNotTurned(t *testing.T) {
+	t.Parallel()
 	for _, s := range wrongSteps() {
 		for _, steps := range [][]impl.Step{
 			{s}, {set(0, num(1)), s}, {s, set(0, taken(1))}, {when(0, []impl.Step{s}, nil)}, {when(1, nil, []impl.Step{set(0, num(1)), s})}, {when(0, nil, []impl.Step{when(1, []impl.Step{s}, nil)})},
@@ -900,6 +921,7 @@ func checkNewMemory(t *testing.T, p impl.Prog, names []int, of turner) {
 
 // P52, P56, P58: nothing is written into a program, nor into a row, nor behind the end of them, and the program that is turned is new memory, also if nothing is turned.
 func TestTurnedProgramsAreNewMemory(t *testing.T) {
+	t.Parallel()
 	for i, p := range turnedProgs() {
 		for _, row := range [][]int{rowFor(i, 3), unturned(3), {0, 1, 1}} {
 			checkNewMemory(t, p, row, turnProg)
@@ -936,6 +958,7 @@ func checkNoListsShared(t *testing.T, p impl.Prog, row []int, of turner) {
 
 // P52, P56, P58: no two lists of a turned program share any memory, also where those of the one that came in do.
 func TestTurnedProgramsShareNoLists(t *testing.T) {
+	t.Parallel()
 	leaf := make([]impl.Step, 1, 4)
 	leaf[0] = set(0, num(5))
 	empty := make([]impl.Step, 0, 4)
@@ -958,6 +981,7 @@ func TestTurnedProgramsShareNoLists(t *testing.T) {
 
 // P52, P56: what is not ok is not written into either.
 func TestWhatIsNotTurnedIsNotWrittenInto(t *testing.T) {
+	t.Parallel()
 	for _, s := range wrongSteps() {
 		var lists, were [][]impl.Step
 		wrong := labelled([]string{"0!", "12!0"}, set(0, num(2)), tell(1, 0), when(1, []impl.Step{set(0, num(2)), s}, nil))
@@ -978,6 +1002,7 @@ func TestWhatIsNotTurnedIsNotWrittenInto(t *testing.T) {
 
 // P52, P56, P58: the same is answered again, whatever was asked in between.
 func TestTurningKeepsNothing(t *testing.T) {
+	t.Parallel()
 	progs := turnedProgs()
 	var hosts, vars []turning
 	for i, p := range progs {

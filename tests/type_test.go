@@ -257,6 +257,7 @@ func labelled(texts []string, steps ...impl.Step) impl.Prog {
 
 // P21
 func TestEachStepHasALabelAndWhoTrusts(t *testing.T) {
+	t.Parallel()
 	for _, p := range typedProgs() {
 		at, sets := impl.TypeAt(p), impl.TypeSets(p)
 		if len(at) != impl.ProgSize(p) || len(sets) != impl.ProgSize(p) {
@@ -276,6 +277,7 @@ func TestEachStepHasALabelAndWhoTrusts(t *testing.T) {
 
 // P21, P22, P27, P28
 func TestTypesOfManyPrograms(t *testing.T) {
+	t.Parallel()
 	fine, first := map[bool]int{}, map[int]int{}
 	for _, p := range typedProgs() {
 		fine[checkTypes(t, p)]++
@@ -295,6 +297,7 @@ func TestTypesOfManyPrograms(t *testing.T) {
 
 // P21: every shape of steps, with a label of each variable that tells it from all others.
 func TestTypesOfEachShape(t *testing.T) {
+	t.Parallel()
 	for _, p := range okShapes(9) {
 		p.Labels = labelled([]string{"01!12", "12!01", "02!02", "012!2"}).Labels
 		if got, want := impl.TypeAt(p), labelsBy(p); !slices.Equal(got, want) {
@@ -309,6 +312,7 @@ func TestTypesOfEachShape(t *testing.T) {
 
 // P21, P23: labels and sets worked out by hand; behind a StepIf it is as ahead of it, and Else does not hang on what is in Then.
 func TestTypesOneByOne(t *testing.T) {
+	t.Parallel()
 	p := labelled([]string{"01!012", "12!01", "012!2", "2!0"},
 		when(0, []impl.Step{
 			when(1, []impl.Step{set(3, num(1))}, []impl.Step{set(2, num(2))}),
@@ -333,6 +337,7 @@ func TestTypesOneByOne(t *testing.T) {
 
 // P22
 func TestProgramIsFineJustIfNoStepIsTold(t *testing.T) {
+	t.Parallel()
 	for _, p := range typedProgs() {
 		n, bad := impl.TypeWhy(p)
 		if impl.TypeOk(p) == bad || bad && n >= impl.ProgSize(p) {
@@ -343,6 +348,7 @@ func TestProgramIsFineJustIfNoStepIsTold(t *testing.T) {
 
 // P22: of several steps that are not fine the first is told, as they are counted.
 func TestFirstStepThatIsNotFine(t *testing.T) {
+	t.Parallel()
 	several := 0
 	for _, p := range typedProgs() {
 		faults := faultsBy(p)
@@ -381,6 +387,7 @@ func TestFirstStepThatIsNotFine(t *testing.T) {
 
 // P22, P33: only what stands deep inside is not fine, on each way to there.
 func TestOnlyDeepInsideItIsNotFine(t *testing.T) {
+	t.Parallel()
 	for _, c := range []struct {
 		labels []string
 		leaf   impl.Step
@@ -414,6 +421,7 @@ func TestOnlyDeepInsideItIsNotFine(t *testing.T) {
 
 // P22, P29, P30, P31, P32: what is not fine by the label of being done alone, by Know alone, by Trust alone.
 func TestNotFineByOneThingAlone(t *testing.T) {
+	t.Parallel()
 	for _, c := range []struct {
 		why    string
 		labels []string
@@ -458,6 +466,7 @@ func TestNotFineByOneThingAlone(t *testing.T) {
 
 // P22, P32: every step that has none in it, of two variables with all labels, alone and in a StepIf of each of them.
 func TestEachStepWithAllLabels(t *testing.T) {
+	t.Parallel()
 	var steps []impl.Step
 	for text, s := range plainSteps(2) {
 		// All numbers are the same to a label, so that two of them stand for the rest.
@@ -505,6 +514,7 @@ func fineByTexts(a, b namedLabel, s impl.Step, know, trust string) bool {
 
 // P23
 func TestFirstStepIsDoneByAll(t *testing.T) {
+	t.Parallel()
 	for _, p := range typedProgs() {
 		at := impl.TypeAt(p)
 		if len(p.Steps) == 0 {
@@ -535,6 +545,7 @@ func TestFirstStepIsDoneByAll(t *testing.T) {
 
 // P24
 func TestWhoTrustsWhatIsSetTrustsThatItIsDone(t *testing.T) {
+	t.Parallel()
 	guarded := 0
 	for _, p := range fineProgs(t) {
 		at, sets := impl.TypeAt(p), impl.TypeSets(p)
@@ -554,6 +565,7 @@ func TestWhoTrustsWhatIsSetTrustsThatItIsDone(t *testing.T) {
 
 // P25
 func TestFineJustIfFirstStepsAreAndTheRest(t *testing.T) {
+	t.Parallel()
 	seen := map[[2]bool]int{}
 	for _, p := range typedProgs() {
 		for k := range len(p.Steps) + 1 {
@@ -581,6 +593,7 @@ func TestFineJustIfFirstStepsAreAndTheRest(t *testing.T) {
 
 // P26
 func TestWithLabelsOfAllHostsEachProgramIsFine(t *testing.T) {
+	t.Parallel()
 	for _, p := range slices.Concat(manyProgs(3000), okShapes(9)) {
 		p.Labels = freely(len(p.Labels))
 		if n, bad := impl.TypeWhy(p); !impl.TypeOk(p) || bad || n != 0 {
@@ -602,6 +615,7 @@ func TestWithLabelsOfAllHostsEachProgramIsFine(t *testing.T) {
 
 // P22, P26: with labels of no hosts all may be set, and nothing told.
 func TestWithLabelsOfNoHosts(t *testing.T) {
+	t.Parallel()
 	for _, p := range manyProgs(2000) {
 		p.Labels = make([]impl.Label, len(p.Labels))
 		first := slices.IndexFunc(inOrder(p.Steps), func(s impl.Step) bool { return s.Kind == impl.StepTell })
@@ -617,6 +631,7 @@ func TestWithLabelsOfNoHosts(t *testing.T) {
 
 // P27, P28
 func TestKnowsAndTrustsAreWhatTheLabelsSay(t *testing.T) {
+	t.Parallel()
 	named := allLabels()
 	for vars := range 5 {
 		for i := range named {
@@ -643,6 +658,7 @@ func TestKnowsAndTrustsAreWhatTheLabelsSay(t *testing.T) {
 
 // P27, P28: also where a program is not fine, and whatever its steps are.
 func TestKnowsAndTrustsHangOnLabelsAlone(t *testing.T) {
+	t.Parallel()
 	p := labelled([]string{"01!", "!2", "012!1"})
 	for _, steps := range [][]impl.Step{nil, {}, {tell(1, 0)}, {set(2, sum(0, 1))}, {when(1, []impl.Step{tell(0, 1)}, nil), set(0, num(1))}} {
 		p.Steps = steps
@@ -656,6 +672,7 @@ func TestKnowsAndTrustsHangOnLabelsAlone(t *testing.T) {
 
 // P27, P28: a host that there is not is in no label.
 func TestHostsThatThereAreNot(t *testing.T) {
+	t.Parallel()
 	hosts := append(farNumbers(), -2, -3, -62, -63, -64, 3, 4, 5, 6, 7, 8, 31, 32, 33, 63, 65, 66, 128, 1<<31+1, math.MinInt+2, math.MaxInt-1)
 	for vars := range 5 {
 		for _, a := range []impl.Label{{Know: 7, Trust: 7}, {}, {Know: 5, Trust: 2}} {
@@ -695,6 +712,7 @@ func swayed(a, b impl.Run, trusts []bool) bool {
 
 // P29, P30
 func TestFineProgramsTellNothingMoreAndSetNothingElse(t *testing.T) {
+	t.Parallel()
 	c := chance(6)
 	other, guarded := 0, 0
 	for _, p := range fineProgs(t) {
@@ -728,6 +746,7 @@ func TestFineProgramsTellNothingMoreAndSetNothingElse(t *testing.T) {
 
 // P29, P30: small programs with all rows of 0, 1 and 2; of those that are not fine some tell more, or set something else.
 func TestSmallProgramsTellNothingMoreAndSetNothingElse(t *testing.T) {
+	t.Parallel()
 	c := chance(7)
 	broken := map[string]int{}
 	rows := rowsOver(2, 0, 1, 2)
@@ -769,6 +788,7 @@ func pick(nums []int, row []bool) []int {
 
 // P29: what is learned from which steps are done, also from none of them; such a program is not fine.
 func TestWhatIsLearnedFromWhichStepsAreDone(t *testing.T) {
+	t.Parallel()
 	secret := []string{"12!012", "012!012", "012!012"}
 	for _, steps := range [][]impl.Step{
 		{when(0, []impl.Step{tell(1, 0)}, nil)},
@@ -798,6 +818,7 @@ func TestWhatIsLearnedFromWhichStepsAreDone(t *testing.T) {
 
 // P31
 func TestStepTellAloneIsFineJustIfTheHostMayKnow(t *testing.T) {
+	t.Parallel()
 	for _, a := range allLabels() {
 		for host, h := range []string{"0", "1", "2"} {
 			for v := range 4 {
@@ -823,6 +844,7 @@ func TestStepTellAloneIsFineJustIfTheHostMayKnow(t *testing.T) {
 
 // P32
 func TestVariableMaySetAnotherJustIfItMayBecomeIt(t *testing.T) {
+	t.Parallel()
 	for _, a := range allLabels() {
 		for _, b := range allLabels() {
 			want := impl.LabelFlows(a.label, b.label)
@@ -848,6 +870,7 @@ func TestVariableMaySetAnotherJustIfItMayBecomeIt(t *testing.T) {
 
 // P32: of two variables both must be such that they may become it, and so must that by which it is done.
 func TestVariableSetByTwoJustIfBothMayBecomeIt(t *testing.T) {
+	t.Parallel()
 	named := allLabels()
 	for i, a := range named {
 		for j, b := range named {
@@ -867,6 +890,7 @@ func TestVariableSetByTwoJustIfBothMayBecomeIt(t *testing.T) {
 
 // P33
 func TestStepsThatAreFineInAStepIfAreFineAlone(t *testing.T) {
+	t.Parallel()
 	seen := map[[2]bool]int{}
 	for _, p := range typedProgs() {
 		if len(inOrder(p.Steps)) > 7 || depthOf(p.Steps) > 2 {
@@ -892,6 +916,7 @@ func TestStepsThatAreFineInAStepIfAreFineAlone(t *testing.T) {
 
 // P21, P22, P27, P28: without steps all is fine, and nothing is said of any.
 func TestTypesOfNothing(t *testing.T) {
+	t.Parallel()
 	for _, p := range []impl.Prog{{}, {Labels: []impl.Label{}, Steps: []impl.Step{}}} {
 		if !checkTypes(t, p) || len(impl.TypeKnows(p, 0)) != 0 || len(impl.TypeTrusts(p, 2)) != 0 || len(impl.TypeKnows(p, 3)) != 0 {
 			t.Errorf("%s", written(p))
@@ -909,6 +934,7 @@ func TestTypesOfNothing(t *testing.T) {
 
 // P22: a StepIf without steps is fine, whatever its variable is; nobody trusts what it sets.
 func TestStepIfWithoutSteps(t *testing.T) {
+	t.Parallel()
 	for _, a := range allLabels() {
 		for _, b := range allLabels() {
 			p := impl.Prog{Labels: []impl.Label{a.label, b.label}, Steps: []impl.Step{when(0, nil, []impl.Step{}), when(1, []impl.Step{when(0, nil, nil)}, nil)}}
@@ -922,6 +948,7 @@ func TestStepIfWithoutSteps(t *testing.T) {
 
 // P21 to P28: of a program that is not ok nothing is said.
 func TestWrongProgramsAreNotFine(t *testing.T) {
+	t.Parallel()
 	for many := 5; many < 8; many++ {
 		checkNoTypes(t, progOf(many), "too many labels")
 		checkNoTypes(t, progOf(many, tell(0, 0), tell(many-1, 0)), "too many labels")
@@ -959,6 +986,7 @@ func TestWrongProgramsAreNotFine(t *testing.T) {
 
 // P21 to P28: a wrong step stands anywhere, ahead of one that is not fine, or behind it.
 func TestWrongStepsAreNotFine(t *testing.T) {
+	t.Parallel()
 	for _, s := range wrongSteps() {
 		for _, labels := range [][]string{{"012!012", "012!012"}, {"12!012", "012!012"}} {
 			told := tell(0, 0)
@@ -1002,6 +1030,7 @@ func sameListed(a, b listed) bool {
 
 // P21, P22, P27, P28: nothing is written into a program, nor behind the end of its lists, and what is said of it is new memory.
 func TestTypesAreNewMemory(t *testing.T) {
+	t.Parallel()
 	mark := impl.Label{Know: 91, Trust: 92}
 	for _, p := range typedProgs()[:4000] {
 		var lists, were [][]impl.Step
@@ -1028,6 +1057,7 @@ func TestTypesAreNewMemory(t *testing.T) {
 
 // P21, P27, P28: what is not ok is not written into either, and nothing of it is handed out.
 func TestTypesOfWhatIsNotOkShareNothing(t *testing.T) {
+	t.Parallel()
 	for _, s := range wrongSteps() {
 		var lists, were [][]impl.Step
 		labels, whole := marked(freely(2), impl.Label{Know: 5, Trust: 6})
@@ -1046,6 +1076,7 @@ func TestTypesOfWhatIsNotOkShareNothing(t *testing.T) {
 
 // P21, P22: the same is answered again, whatever was asked in between.
 func TestTypesKeepNothing(t *testing.T) {
+	t.Parallel()
 	progs := typedProgs()
 	var first []listed
 	for _, p := range progs {
