@@ -34,11 +34,11 @@ type lentKey [2]int
 
 var noKey = lentKey{-1, -1}
 
-// story is a parted program by the document's words, told from its end on: who goes on behind a step is who told it, where a key is given back, and who did it, where none is. No word waits, and no key is looked up.
+// story is a parted program by the document's words, told list by list: who goes on behind a step is who had it done, if he made a key for that, and who did it, if not. No word waits, and no key is looked up.
 type story struct {
 	planOf
 	part impl.Part
-	// done is the numbers of the steps that were done, in order; keys is those that were made, and of which kinds.
+	// done is the numbers of the steps that were done, in order; keys is how many keys of each kind were made.
 	done []int
 	keys map[string]int
 }
